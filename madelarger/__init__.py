@@ -1,0 +1,1 @@
+"""Made larger: points of a window, made larger by w w."""
