@@ -10,10 +10,10 @@ from unittest import mock
 
 import helper
 import madelarger.windows
-from madelarger.windows import keeps, large
+from madelarger.windows import keeps, large, piece, pieces
 
 PACKAGE = pathlib.Path(madelarger.windows.__file__).parent
-WINDOWS = ([0, 0, 1, 0], [1, 0, 2, 0], [-1, 0, 0, 1], [0, 0, 0, 0], [], [helper.FARTHEST] * 8)
+WINDOWS = ([0, 0, 1, 0], [1, 0, 2, 0], [-1, 0, 0, 1], [-1, 0, 1, 0], [0, 0, 0, 0], [], [helper.FARTHEST] * 8)
 NUMBERS = ([0, 0], [1, 1], [0, 7], [], [-helper.FARTHEST] * 8)
 
 
@@ -21,44 +21,54 @@ def inputs():
     return [(m, x, z) for m in helper.MS + helper.WRONG_MS for x in WINDOWS for z in NUMBERS]
 
 
+def called(m, x, z):
+    """What every call answers."""
+    return [call(m, x) for call in (keeps, pieces)] + [call(m, x, z) for call in (large, piece)]
+
+
 def answers():
-    return [(keeps(m, x), large(m, x, z)) for m, x, z in inputs()]
+    return [called(m, x, z) for m, x, z in inputs()]
 
 
 class Calls(unittest.TestCase):
     def test_names_and_arguments(self):
-        self.assertEqual(madelarger.windows.keeps(m=1, x=[0, 0, 1, 0]), [1])
-        self.assertEqual(madelarger.windows.large(m=1, x=[0, 0, 1, 0], z=[1, 1]), [0, 2, 3])
+        x = [0, 0, 1, 0]
+        self.assertEqual(madelarger.windows.keeps(m=1, x=x), [1])
+        self.assertEqual(madelarger.windows.large(m=1, x=x, z=[1, 1]), [0, 2, 3])
+        self.assertEqual(madelarger.windows.piece(m=1, x=x, z=[2, 2]), [2, 1, 1, 0, 1])
+        self.assertEqual(madelarger.windows.pieces(m=1, x=x)[:8], [2, 0, 1, 2, 1, 1, 0, 1])
 
     def test_what_is_handed_in_stays_as_it_was(self):
         for m, x, z in inputs():
             window = helper.Untouched(x)
             number = helper.Untouched(z)
-            self.assertEqual(keeps(m, window), keeps(m, x))
-            self.assertEqual(large(m, window, number), large(m, x, z))
+            self.assertEqual(called(m, window, number), called(m, x, z))
             self.assertEqual(list(window), x)
             self.assertEqual(list(number), z)
 
     def test_second_call_answers_like_the_first(self):
         first = answers()
         self.assertEqual(answers(), first)
-        self.assertEqual(list(reversed([(keeps(m, x), large(m, x, z)) for m, x, z in reversed(inputs())])), first)
+        self.assertEqual(list(reversed([called(m, x, z) for m, x, z in reversed(inputs())])), first)
 
     def test_answer_is_the_callers_own(self):
-        x = [0, 0, 1, 0]
-        z = [1, 1]
-        large(1, x, z).append(9)
-        keeps(1, x).append(9)
-        self.assertEqual(large(1, x, z), [0, 2, 3])
-        self.assertEqual(keeps(1, x), [1])
-        self.assertEqual((x, z), ([0, 0, 1, 0], [1, 1]))
+        for m in helper.MS:
+            x = [0, 0, 1, 0]
+            z = [0, 0]
+            first = called(m, x, z)
+            for answer in called(m, x, z):
+                answer[0] = 9
+                answer.append(9)
+            self.assertEqual(called(m, x, z), first)
+            self.assertEqual((x, z), ([0, 0, 1, 0], [0, 0]))
 
     def test_refusal_is_its_number_alone(self):
-        for answer in [answer for pair in answers() for answer in pair]:
-            if answer[0] < 0:
-                self.assertIn(answer, ([-22], [-33], [-2]))
-        for m, x, z in inputs():
-            self.assertIn(keeps(m, x), ([0], [1], [-22]))
+        for kept, whole, larger, row in answers():
+            self.assertIn(kept, ([0], [1], [-22]))
+            for answer in (whole, larger, row):
+                if answer[0] < 0:
+                    self.assertIn(answer, ([-22], [-33], [-2]))
+            self.assertNotEqual(whole, [-2])
 
     def test_nothing_is_printed_or_read(self):
         out = io.StringIO()
