@@ -1,4 +1,4 @@
-"""Windows, whether they keep their points, points made larger, and the pieces between these.
+"""Windows, whether they keep their points, points made larger, the pieces between these, and the points' parents.
 
 A number a and b w is two whole numbers, a, then b; w w is m w and 1.
 """
@@ -9,6 +9,7 @@ NO_POINT = -2
 
 LARGEST_M = 4
 LARGEST_PART = 1000000
+LARGEST_DEPTH = 20
 
 
 def keeps(m, x):
@@ -60,6 +61,26 @@ def pieces(m, x):
     return [count] + told
 
 
+def parent(m, x, z):
+    """Answer 0, then the parent of the point z, or a refusal."""
+    refused = point_refusal(m, x, z)
+    if refused != 0:
+        return [refused]
+    parts = window_parts(m, x)
+    point = z
+    while not comes_larger(m, x, point):
+        point = point_before(m, parts, point)
+    return [0] + made_smaller(m, point)
+
+
+def depth(m, x, z):
+    """Answer how deep the point z is, or a refusal."""
+    refused = point_refusal(m, x, z)
+    if refused != 0:
+        return [refused]
+    return [how_deep(m, x, z)]
+
+
 def told_row(row):
     """How many steps the row has, then the two whole numbers of each."""
     told = [len(row)]
@@ -103,6 +124,21 @@ def is_point(m, x, z):
     return lies_within(m, partner(m, z), x[:2], x[2:])
 
 
+def comes_larger(m, x, point):
+    """Whether the point is some point of the window x made larger."""
+    return is_point(m, x, made_smaller(m, point))
+
+
+def how_deep(m, x, point):
+    """How often the point is, one after another, some point made larger."""
+    count = 0
+    # 0 is 0 made larger, however often, so without a bound this would not end.
+    while count < LARGEST_DEPTH and comes_larger(m, x, point):
+        point = made_smaller(m, point)
+        count = count + 1
+    return count
+
+
 # A step, and where the partners of the points lie from which it leads: from low on, below high.
 class Part:
     def __init__(self, step, low, high):
@@ -144,8 +180,17 @@ def rising_and_falling(m, length):
 
 def step_from(m, parts, point):
     """The step that leads from the point to the next one."""
-    mirrored = partner(m, point)
-    return [part.step for part in parts if lies_within(m, mirrored, part.low, part.high)][0]
+    return [part.step for part in parts if leads_from(m, part, point)][0]
+
+
+def point_before(m, parts, point):
+    """The point from which a step leads to this one."""
+    return [minus(point, part.step) for part in parts if leads_from(m, part, minus(point, part.step))][0]
+
+
+def leads_from(m, part, number):
+    """Whether the number is a point from which the part's step leads."""
+    return lies_within(m, partner(m, number), part.low, part.high)
 
 
 # A row of steps, how far they lead together, and where the partners of the points lie to which they lead.

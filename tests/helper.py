@@ -58,6 +58,10 @@ def over_square(m, z):
     return [b - m * a, a]
 
 
+def smaller_window(m, x):
+    return over_square(m, x[:2]) + over_square(m, x[2:])
+
+
 def partner_of(m, z):
     return [z[0] + m * z[1], -z[1]]
 
@@ -135,6 +139,27 @@ def expected_piece(m, x, z):
     return told(expected_row(m, x, z)) if made[0] == 0 else made
 
 
+def expected_parent(m, x, z):
+    """What parent answers: what is made larger stays in order, so the last point not beyond z over w w."""
+    made = expected_large(m, x, z)
+    if made[0] != 0:
+        return made
+    most = over_square(m, z)
+    return [0] + points_between(m, x, minus(most, [2, 2]), most)[-1]
+
+
+def expected_depth(m, x, z):
+    """What depth answers, for an m, a window's and a number's whole numbers as told."""
+    made = expected_large(m, x, z)
+    if made[0] != 0:
+        return made
+    smaller = [over_square(m, z)]
+    while len(smaller) < 20:
+        smaller.append(over_square(m, smaller[-1]))
+    inside = [in_window(m, x, number) for number in smaller] + [False]
+    return [inside.index(False)]
+
+
 def part_starts(m, x):
     """Where, from u on, the step that leads from the points whose partners lie there becomes another one."""
     length = minus(x[2:], x[:2])
@@ -160,7 +185,7 @@ def witnesses(m, x):
     lie just where a part starts. Such a place is a number too, so there is a point for it.
     """
     length = minus(x[2:], x[:2])
-    smaller = over_square(m, x[:2]) + over_square(m, x[2:])
+    smaller = smaller_window(m, x)
     starts = part_starts(m, x)
     steps = [expected_step(m, x, partner_of(m, start)) for start in starts]
     longest = max(steps, key=lambda step: value(m, *step))
@@ -255,6 +280,30 @@ def far_windows(m):
         v = [a, -int(a / ROOTS[m])]
         found.extend([u + v for u in ([0, 0], [-1, 0], [0, -1]) if expected_keeps(m, u + v) == [1]])
     return found
+
+
+def point_near_a_million(m, sign):
+    """A number with the partner less than 1 from 0 and with a million, or less so many, times w."""
+    return [sign * int(TOP / ROOTS[m]), sign * TOP]
+
+
+def points_near_a_million(m, x, sign):
+    """The points of the window x about such a number, none beyond what may be handed in."""
+    near = point_near_a_million(m, sign)
+    points = points_between(m, x, minus(near, [3, sign]), plus(near, [3, -sign]))
+    return [z for z in points if abs(z[1]) <= TOP]
+
+
+def points_at_ends(m, ends):
+    """Of each end of ends, the numbers whose partner lies just at it, just below it and just beyond it.
+
+    Such numbers as may not be handed in are left out.
+    """
+    near = tiny(m, TOP // 100)
+    found = []
+    for end in (ends[:2], ends[2:]):
+        found.extend([partner_of(m, place) for place in (minus(end, near), end, plus(end, near))])
+    return [z for z in found if max(map(abs, z)) <= TOP]
 
 
 class Untouched(list):

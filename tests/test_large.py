@@ -74,7 +74,7 @@ class WhatHolds(unittest.TestCase):
     def test_points_of_the_smaller_window_are_just_those_that_come_so(self):
         for m in helper.MS:
             for x in self.windows(m):
-                smaller = helper.over_square(m, x[:2]) + helper.over_square(m, x[2:])
+                smaller = helper.smaller_window(m, x)
                 for z in self.points(m, x, 12):
                     source = helper.over_square(m, z)
                     expected = [0] + z if helper.in_window(m, smaller, z) else [-2]

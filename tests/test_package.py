@@ -10,7 +10,7 @@ from unittest import mock
 
 import helper
 import madelarger.windows
-from madelarger.windows import keeps, large, piece, pieces
+from madelarger.windows import depth, keeps, large, parent, piece, pieces
 
 PACKAGE = pathlib.Path(madelarger.windows.__file__).parent
 WINDOWS = ([0, 0, 1, 0], [1, 0, 2, 0], [-1, 0, 0, 1], [-1, 0, 1, 0], [0, 0, 0, 0], [], [helper.FARTHEST] * 8)
@@ -23,7 +23,7 @@ def inputs():
 
 def called(m, x, z):
     """What every call answers."""
-    return [call(m, x) for call in (keeps, pieces)] + [call(m, x, z) for call in (large, piece)]
+    return [call(m, x) for call in (keeps, pieces)] + [call(m, x, z) for call in (large, piece, parent, depth)]
 
 
 def answers():
@@ -37,6 +37,8 @@ class Calls(unittest.TestCase):
         self.assertEqual(madelarger.windows.large(m=1, x=x, z=[1, 1]), [0, 2, 3])
         self.assertEqual(madelarger.windows.piece(m=1, x=x, z=[2, 2]), [2, 1, 1, 0, 1])
         self.assertEqual(madelarger.windows.pieces(m=1, x=x)[:8], [2, 0, 1, 2, 1, 1, 0, 1])
+        self.assertEqual(madelarger.windows.parent(m=1, x=x, z=[2, 2]), [0, 0, 0])
+        self.assertEqual(madelarger.windows.depth(m=1, x=x, z=[2, 3]), [1])
 
     def test_what_is_handed_in_stays_as_it_was(self):
         for m, x, z in inputs():
@@ -63,12 +65,14 @@ class Calls(unittest.TestCase):
             self.assertEqual((x, z), ([0, 0, 1, 0], [0, 0]))
 
     def test_refusal_is_its_number_alone(self):
-        for kept, whole, larger, row in answers():
+        for kept, whole, larger, row, above, deep in answers():
             self.assertIn(kept, ([0], [1], [-22]))
-            for answer in (whole, larger, row):
+            for answer in (whole, larger, row, above, deep):
                 if answer[0] < 0:
                     self.assertIn(answer, ([-22], [-33], [-2]))
             self.assertNotEqual(whole, [-2])
+            # What is refused of a point is refused by each call that takes one.
+            self.assertEqual([answer for answer in (row, above, deep) if (answer[0] < 0) != (larger[0] < 0)], [])
 
     def test_nothing_is_printed_or_read(self):
         out = io.StringIO()

@@ -6,11 +6,6 @@ import helper
 from madelarger.windows import keeps, large, piece, pieces
 
 
-def point_near_a_million(m, sign):
-    """A number with the partner less than 1 from 0 and with a million, or less so many, times w."""
-    return [sign * int(helper.TOP / helper.ROOTS[m]), sign * helper.TOP]
-
-
 class Ordinary(unittest.TestCase):
     def test_by_hand(self):
         cases = [
@@ -79,14 +74,9 @@ class WhatHolds(unittest.TestCase):
     def test_points_near_a_million(self):
         for m in helper.MS:
             for sign in (1, -1):
-                near = point_near_a_million(m, sign)
-                low = helper.minus(near, [3, sign])
-                high = helper.plus(near, [3, -sign])
                 for x in ([-1, 0, 1, 0], [-1, 0, 0, 1], [0, 0, 1, 0], [0, -1, 0, 0]):
-                    if keeps(m, x) == [1]:
-                        points = helper.points_between(m, x, low, high)
-                        for z in [z for z in points if abs(z[1]) <= helper.TOP]:
-                            self.check(m, x, z)
+                    for z in helper.points_near_a_million(m, x, sign) if keeps(m, x) == [1] else []:
+                        self.check(m, x, z)
 
     def test_points_whose_partner_lies_at_the_start_of_a_part_and_just_below(self):
         for m in helper.MS:
@@ -162,7 +152,7 @@ class Corners(unittest.TestCase):
         for m in helper.MS:
             x = [-1, 0, 1, 0]
             for sign in (1, -1):
-                z = point_near_a_million(m, sign)
+                z = helper.point_near_a_million(m, sign)
                 self.assertEqual(piece(m, x, z), helper.expected_piece(m, x, z), (m, z))
                 self.assertEqual(piece(m, x, [z[0], sign * (helper.TOP + 1)]), [-22])
                 self.assertEqual(piece(m, x, [sign * helper.TOP, 0]), [-2])
