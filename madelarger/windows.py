@@ -81,6 +81,13 @@ def depth(m, x, z):
     return [how_deep(m, x, z)]
 
 
+def window(m, x):
+    """Answer 0, then the smaller window of the window x, or a refusal."""
+    if not is_window(m, x):
+        return [WRONG_INPUT]
+    return [0] + smaller_window(m, x)
+
+
 def told_row(row):
     """How many steps the row has, then the two whole numbers of each."""
     told = [len(row)]
@@ -114,9 +121,13 @@ def is_told(parts, count):
 
 def keeps_points(m, x):
     """Whether the smaller window lies within the window x."""
-    u = x[:2]
-    v = x[2:]
-    return not is_below(m, made_smaller(m, u), u) and not is_below(m, v, made_smaller(m, v))
+    smaller = smaller_window(m, x)
+    return not is_below(m, smaller[:2], x[:2]) and not is_below(m, x[2:], smaller[2:])
+
+
+def smaller_window(m, x):
+    """The ends of the window x, each made smaller."""
+    return made_smaller(m, x[:2]) + made_smaller(m, x[2:])
 
 
 def is_point(m, x, z):

@@ -139,6 +139,11 @@ def expected_piece(m, x, z):
     return told(expected_row(m, x, z)) if made[0] == 0 else made
 
 
+def expected_window(m, x):
+    """What window answers, for an m and a window's whole numbers as told, be its points kept or not."""
+    return [-22] if expected_keeps(m, x) == [-22] else [0] + smaller_window(m, x)
+
+
 def expected_parent(m, x, z):
     """What parent answers: what is made larger stays in order, so the last point not beyond z over w w."""
     made = expected_large(m, x, z)

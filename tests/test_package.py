@@ -10,7 +10,7 @@ from unittest import mock
 
 import helper
 import madelarger.windows
-from madelarger.windows import depth, keeps, large, parent, piece, pieces
+from madelarger.windows import depth, keeps, large, parent, piece, pieces, window
 
 PACKAGE = pathlib.Path(madelarger.windows.__file__).parent
 WINDOWS = ([0, 0, 1, 0], [1, 0, 2, 0], [-1, 0, 0, 1], [-1, 0, 1, 0], [0, 0, 0, 0], [], [helper.FARTHEST] * 8)
@@ -23,7 +23,8 @@ def inputs():
 
 def called(m, x, z):
     """What every call answers."""
-    return [call(m, x) for call in (keeps, pieces)] + [call(m, x, z) for call in (large, piece, parent, depth)]
+    of_window = [call(m, x) for call in (keeps, window, pieces)]
+    return of_window + [call(m, x, z) for call in (large, piece, parent, depth)]
 
 
 def answers():
@@ -39,13 +40,14 @@ class Calls(unittest.TestCase):
         self.assertEqual(madelarger.windows.pieces(m=1, x=x)[:8], [2, 0, 1, 2, 1, 1, 0, 1])
         self.assertEqual(madelarger.windows.parent(m=1, x=x, z=[2, 2]), [0, 0, 0])
         self.assertEqual(madelarger.windows.depth(m=1, x=x, z=[2, 3]), [1])
+        self.assertEqual(madelarger.windows.window(m=1, x=x), [0, 0, 0, 2, -1])
 
     def test_what_is_handed_in_stays_as_it_was(self):
         for m, x, z in inputs():
-            window = helper.Untouched(x)
+            ends = helper.Untouched(x)
             number = helper.Untouched(z)
-            self.assertEqual(called(m, window, number), called(m, x, z))
-            self.assertEqual(list(window), x)
+            self.assertEqual(called(m, ends, number), called(m, x, z))
+            self.assertEqual(list(ends), x)
             self.assertEqual(list(number), z)
 
     def test_second_call_answers_like_the_first(self):
@@ -65,8 +67,10 @@ class Calls(unittest.TestCase):
             self.assertEqual((x, z), ([0, 0, 1, 0], [0, 0]))
 
     def test_refusal_is_its_number_alone(self):
-        for kept, whole, larger, row, above, deep in answers():
+        for kept, smaller, whole, larger, row, above, deep in answers():
             self.assertIn(kept, ([0], [1], [-22]))
+            if smaller != [-22]:
+                self.assertEqual((len(smaller), smaller[0]), (5, 0))
             for answer in (whole, larger, row, above, deep):
                 if answer[0] < 0:
                     self.assertIn(answer, ([-22], [-33], [-2]))

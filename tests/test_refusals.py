@@ -6,12 +6,12 @@ Of keeps and large the files for them tell it.
 import unittest
 
 import helper
-from madelarger.windows import depth, parent, piece, pieces
+from madelarger.windows import depth, parent, piece, pieces, window
 
 WINDOW = [0, 0, 1, 0]
 # Each call, and the second way to what it answers.
 POINT_CALLS = {piece: helper.expected_piece, parent: helper.expected_parent, depth: helper.expected_depth}
-WINDOW_CALLS = {pieces: helper.expected_pieces}
+WINDOW_CALLS = {pieces: helper.expected_pieces, window: helper.expected_window}
 
 
 class Refusals(unittest.TestCase):
@@ -106,6 +106,7 @@ class Order(Refusals):
                 for z in ([0, 0], [1, 0], [-2, 0], [helper.TOP, helper.TOP]):
                     self.check_point(m, x, z, -33)
                 self.assertEqual(pieces(m, x), [-33], (m, x))
+                self.assertEqual(window(m, x), helper.expected_window(m, x), (m, x))
 
     def test_no_point_last(self):
         for m in helper.MS:
